@@ -129,11 +129,9 @@ func TestSharedMemoryIsFound(t *testing.T) {
 	list := []int{1, 2, 3, 4}
 	expect(t, "two that lie apart", shared(pair{A: []int{1}}, []any{pair{[]int{1}, []int{2}}}), "")
 	expect(t, "with what was handed in", shared(pair{A: list}, []any{[]pair{{B: list[3:]}}}), "answer[0][0].B and handed.A")
-	expect(t, "by spare room", shared(nil0{}, []any{list[:1], list[2:]}), "answer[1] and answer[0]")
+	expect(t, "by spare room", shared(0, []any{list[:1], list[2:]}), "answer[1] and answer[0]")
 	handed := roomyCopy(pair{A: list})
 	before := fullText(reflect.ValueOf(handed))
 	_ = append(handed.A, 5)
 	expect(t, "written behind the end", fullText(reflect.ValueOf(handed)) == before, false)
 }
-
-type nil0 struct{}
