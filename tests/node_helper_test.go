@@ -261,7 +261,11 @@ func drawPlaces(d *draws, me int) []impl.Place {
 
 // drawNode is any node that is ok: now and then one that is down, or Gone.
 func drawNode(d *draws) impl.Node {
-	n := impl.Node{Me: d.between(0, factMaxNode), Gate: d.between(0, 2) > 0}
+	return drawNodeAs(d, d.between(0, factMaxNode), d.between(0, 2) > 0)
+}
+
+func drawNodeAs(d *draws, me int, gate bool) impl.Node {
+	n := impl.Node{Me: me, Gate: gate}
 	if d.between(0, 15) == 0 {
 		return n
 	}

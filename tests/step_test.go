@@ -43,8 +43,7 @@ func playedSteps(seed uint64, events int) []step {
 	var list []step
 	does := func(s step) {
 		list = append(list, s)
-		p.nodes[s.before.Me] = s.after
-		p.send(s.words)
+		p.becomes(s.after, s.words, s.heard.Facts)
 	}
 	for range events {
 		node := d.between(0, factMaxNode)
@@ -54,7 +53,7 @@ func playedSteps(seed uint64, events int) []step {
 			does(ticking(p.nodes[node], drawDraw(d)))
 		case what < 80 && len(p.radio) > 0:
 			place := d.between(0, min(len(p.radio)-1, 3))
-			w, ok := impl.WordRead(p.radio[place].text)
+			w, ok := impl.WordRead(p.radio[place].Text)
 			if what < 75 {
 				p.radio = slices.Delete(p.radio, place, place+1)
 			}
